@@ -1,0 +1,1 @@
+"""A text's endings in order."""
