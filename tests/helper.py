@@ -31,6 +31,30 @@ def count(piece):
     return [5, len(piece)] + list(piece)
 
 
+def find(k, piece):
+    return [6, k, len(piece)] + list(piece)
+
+
+def repeat(times):
+    return [7, times]
+
+
+def different():
+    return [8]
+
+
+def nth(k):
+    return [9, k]
+
+
+def shared(other):
+    return [10, len(other)] + list(other)
+
+
+def turn():
+    return [11]
+
+
 def apart(given):
     """The list that is given back as one list an answer."""
     found = []
@@ -77,3 +101,54 @@ def expected_common(text, i, j):
 def expected_count(text, piece):
     """How many endings the piece begins."""
     return sum(text[at:].startswith(piece) for at in range(len(text)))
+
+
+def expected_find(text, k, piece):
+    """The k-th place is where one looks on, one byte behind the place before it."""
+    if not piece:
+        return -1
+    at = text.find(piece)
+    while k > 0 and at >= 0:
+        at = text.find(piece, at + 1)
+        k -= 1
+    return at if at >= 0 else -2
+
+
+def expected_pieces(text):
+    """Bytes are put in order by Python as the document tells."""
+    return sorted({text[at:end] for at in range(len(text)) for end in range(at + 1, len(text) + 1)})
+
+
+def longest_and_first(pieces):
+    return min(pieces, key=lambda piece: (-len(piece), piece))
+
+
+def expected_repeat(text, times):
+    if times == 0:
+        return [-1]
+    often = [piece for piece in expected_pieces(text) if expected_count(text, piece) >= times]
+    if not often:
+        return [0]
+    piece = longest_and_first(often)
+    return [len(piece), text.find(piece)]
+
+
+def expected_nth(text, k):
+    pieces = expected_pieces(text)
+    return [len(pieces[k]), text.find(pieces[k])] if k < len(pieces) else [-2]
+
+
+def expected_shared(text, other):
+    both = set(expected_pieces(text)) & set(expected_pieces(other))
+    if not both:
+        return [0]
+    piece = longest_and_first(both)
+    return [len(piece), text.find(piece), other.find(piece)]
+
+
+def expected_turn(text):
+    """Of the text twice over, the run of its length that comes first in order, where it first stands."""
+    if not text:
+        return -2
+    twice = text + text
+    return twice.find(min(twice[at:at + len(text)] for at in range(len(text))))

@@ -2,7 +2,8 @@
 
 import unittest
 
-from tests.helper import ask, common, count, order, place, rank, start
+from tests.helper import (ask, common, count, different, find, nth, order, place, rank, repeat, shared, start,
+                          turn)
 
 
 class Start(unittest.TestCase):
@@ -30,6 +31,22 @@ class Start(unittest.TestCase):
                 start(b"na"), order(), count(b"an"), place(5), rank(5), common(1, 3), count(b"na")),
             [[0], [6, 5, 3, 1, 0, 4, 2], [2], [2], [0], [3],
              [0], [2, 1, 0], [0], [-2], [-2], [-2], [1]])
+
+    def test_start_again_after_the_calls_about_pieces(self):
+        asked = [find(1, b"an"), repeat(2), different(), nth(0), shared(b"nan"), turn()]
+        banana = [[3], [3, 1], [15], [1, 1], [3, 2, 0], [5]]
+        cna = [[-2], [0], [6], [1, 2], [2, 1, 0], [2]]
+        self.assertEqual(
+            ask(start(b"banana"), *asked, start(b"cna"), *asked, start(b"banana"), *asked),
+            [[0]] + banana + [[0]] + cna + [[0]] + banana)
+
+    def test_start_again_after_refusals(self):
+        refused = [find(0, b""), find(9, b"a"), repeat(0), nth(99), place(9), rank(9), common(9, 9), count(b"")]
+        self.assertEqual(
+            ask(start(b"ba"), *refused, order(), turn(), start(b""), turn(), nth(0), start(b"cab"), *refused, turn()),
+            [[0], [-1], [-2], [-1], [-2], [-2], [-2], [-2], [-1], [2, 1, 0], [1],
+             [0], [-2], [-2],
+             [0], [-1], [-2], [-1], [-2], [-2], [-2], [-2], [-1], [1]])
 
     def test_start_again_with_a_longer_text(self):
         self.assertEqual(ask(start(b"b"), start(b"ab"), order(), rank(1)), [[0], [0], [2, 0, 1], [1]])

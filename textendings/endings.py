@@ -6,12 +6,18 @@ PLACE = 2
 RANK = 3
 COMMON = 4
 COUNT = 5
+FIND = 6
+REPEAT = 7
+DIFFERENT = 8
+NTH = 9
+SHARED = 10
 
 # By a call's number: how many whole numbers follow it, and whether a row stands behind these.
-WHOLE_NUMBERS = (0, 0, 1, 1, 2, 0)
-HAS_ROW = (True, False, False, False, False, True)
+WHOLE_NUMBERS = (0, 0, 1, 1, 2, 0, 1, 1, 0, 1, 0, 0)
+HAS_ROW = (True, False, False, False, False, True, True, False, False, False, True, False)
 
 NO_BYTE = -1
+NO_TIMES = -1
 OUT_OF_REACH = -2
 
 
@@ -61,6 +67,75 @@ def count_of(text, piece):
     return len(places_of(text, piece))
 
 
+def kth_place_of(text, k, piece):
+    """The k-th of the places at which the piece stands."""
+    if len(piece) == 0:
+        return NO_BYTE
+    places = places_of(text, piece)
+    if k >= len(places):
+        return OUT_OF_REACH
+    return places[k]
+
+
+def first_place_of(text, piece):
+    """The first place of a piece that stands in the text."""
+    return places_of(text, piece)[0]
+
+
+def different_pieces(text):
+    """All different pieces, in order."""
+    pieces = []
+    # The empty ending comes before all others and has no byte in common with them.
+    before = len(text)
+    for place in places_in_order(text):
+        # What an ending has in common with the one before it has been met there; its longer
+        # beginnings are new, and come behind all that the endings before it begin with.
+        shortest = common_length(text, before, place) + 1
+        pieces.extend([text[place:end] for end in range(place + shortest, len(text) + 1)])
+        before = place
+    return pieces
+
+
+def longest_first(pieces):
+    """The longest of these pieces, which are in order, and of several the first; [] where there's none."""
+    # Of several that are equally long, Python's max takes the one it meets first.
+    return max(pieces, key=len, default=[])
+
+
+def longest_repeated(text, times):
+    """The length and first place of the longest piece that stands at that many places at least."""
+    if times == 0:
+        return [NO_TIMES]
+    longest = longest_first([piece for piece in different_pieces(text) if count_of(text, piece) >= times])
+    if len(longest) == 0:
+        return [0]
+    return [len(longest), first_place_of(text, longest)]
+
+
+def kth_different(text, k):
+    """The length and first place of the k-th of the different pieces."""
+    pieces = different_pieces(text)
+    if k >= len(pieces):
+        return [OUT_OF_REACH]
+    return [len(pieces[k]), first_place_of(text, pieces[k])]
+
+
+def longest_shared(text, other):
+    """The length and first places of the longest piece that stands in the other text, too."""
+    longest = longest_first([piece for piece in different_pieces(text) if count_of(other, piece) > 0])
+    if len(longest) == 0:
+        return [0]
+    return [len(longest), first_place_of(text, longest), first_place_of(other, longest)]
+
+
+def first_turn(text):
+    """The first place from which the text, gone on with at its beginning, comes first in order."""
+    if len(text) == 0:
+        return OUT_OF_REACH
+    turns = [text[place:] + text[:place] for place in range(len(text))]
+    return turns.index(min(turns))
+
+
 def answer(text, number, numbers, row):
     """What one call other than start answers, number by number."""
     if number == ORDER:
@@ -71,7 +146,19 @@ def answer(text, number, numbers, row):
         return [rank_of(text, numbers[0])]
     if number == COMMON:
         return [common_length(text, numbers[0], numbers[1])]
-    return [count_of(text, row)]
+    if number == COUNT:
+        return [count_of(text, row)]
+    if number == FIND:
+        return [kth_place_of(text, numbers[0], row)]
+    if number == REPEAT:
+        return longest_repeated(text, numbers[0])
+    if number == DIFFERENT:
+        return [len(different_pieces(text))]
+    if number == NTH:
+        return kth_different(text, numbers[0])
+    if number == SHARED:
+        return longest_shared(text, row)
+    return [first_turn(text)]
 
 
 def answers(calls):
